@@ -30,34 +30,34 @@ def fraction_of(value):
 def added(one, other):
     """One and other together."""
     up, down = read_fraction(one, "one")
-    more, parts = read_fraction(other, "other")
-    return reduced(up * parts + more * down, down * parts)
+    more, below = read_fraction(other, "other")
+    return reduced(up * below + more * down, down * below)
 
 
 def taken(one, other):
     """One less other."""
     up, down = read_fraction(one, "one")
-    less, parts = read_fraction(other, "other")
-    return reduced(up * parts - less * down, down * parts)
+    less, below = read_fraction(other, "other")
+    return reduced(up * below - less * down, down * below)
 
 
 def multiplied(one, other):
     """One times other."""
     up, down = read_fraction(one, "one")
-    times, parts = read_fraction(other, "other")
-    return reduced(up * times, down * parts)
+    times, below = read_fraction(other, "other")
+    return reduced(up * times, down * below)
 
 
 def divided(one, other):
     """One divided by other, which is not 0."""
     up, down = read_fraction(one, "one")
-    times, parts = read_fraction(other, "other")
+    times, below = read_fraction(other, "other")
     if times == 0:
         raise Misfit("other")
     if times < 0:
         # What stands below must come out above 0: so the sign goes above.
-        return reduced(-up * parts, -times * down)
-    return reduced(up * parts, times * down)
+        return reduced(-up * below, -times * down)
+    return reduced(up * below, times * down)
 
 
 def sum_of(some):

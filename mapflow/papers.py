@@ -27,6 +27,8 @@ class Paper:
 class Denial(Paper):
     """A paper that says no; it is false."""
 
+    # The interface lists these methods for Denial too, so it has them itself and does not inherit them.
+
     def __init__(self, word, *parts):
         self.word = word
         self.parts = fixed(parts)
