@@ -28,6 +28,14 @@ def is_fraction(value):
     return is_integer(value[0]) and is_within(value[1], 1, None)
 
 
+def is_fraction_to(value, most):
+    """Whether value is a fraction from 0 to most, an integer."""
+    if not is_fraction(value):
+        return False
+    up, down = (value, 1) if is_integer(value) else value
+    return 0 <= up <= most * down
+
+
 def is_place(value):
     """Whether value is a pair of two fractions."""
     if not is_list(value) or len(value) != 2:

@@ -1,6 +1,6 @@
 """Reckoning with fractions, exactly; they are returned as reduced tuples (up, down)."""
 
-from math import gcd
+from math import gcd, lcm
 
 from mapflow.checks import is_fraction, is_integer, is_list
 from mapflow.errors import BadNumber, Misfit
@@ -20,6 +20,14 @@ def read_fraction(value, part):
         return reduced(value, 1)
     up, down = value
     return reduced(up, down)
+
+
+def over_one_down(some):
+    """Reduced fractions told with one down in common: the pair (ups, down)."""
+    down = 1
+    for _, below in some:
+        down = lcm(down, below)
+    return ([up * (down // below) for up, below in some], down)
 
 
 def fraction_of(value):

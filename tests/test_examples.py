@@ -1,50 +1,50 @@
 """The examples of the document, as they stand there, and the runner that reads them."""
 
+import importlib
+import re
 import unittest
+from pathlib import Path
 
-from mapflow import checks, errors, fractions, papers
 from tests.doc_examples import failures_of, rows_of
 
-CHECKS = """
->>> [is_integer(True), is_within(3, None, 3), is_fraction(7), is_fraction([2, 4]), is_fraction((1, 0)), is_fraction((1, -2)), is_fraction((1, True))]
-[False, True, True, True, False, False, False]
->>> [is_place((1, [2, 4])), is_place([0, 0]), is_place((1, 2, 3)), is_place(5)]
-[True, True, False, False]
-"""
+# In the order of the document: an example uses names as earlier ones made them last.
+TITLES = {
+    "checks": 2, "papers": 2, "fractions": 4, "maps": 8, "builds": 6, "drawings": 12, "check_drawings": 2, "weights": 12,
+    "tellback": 11, "flows": 14, "polys": 7,
+}
+FOLDER = Path(__file__).resolve().parent / "examples"
+DOCUMENT = FOLDER.parent.parent.parent / "shared" / "DOC.md"
 
-PAPERS = """
->>> note = Paper("note", [1, (2, [3])])
->>> [note.parts, bool(note), bool(Denial("no")), note == Denial("note", [1, (2, [3])]), fixed([[], {"a": [1]}])]
-[((1, (2, (3,))),), True, False, False, ((), {'a': [1]})]
-"""
 
-FRACTIONS = """
->>> [fraction_of([6, 4]), fraction_of(-3), added((1, 6), (1, 3)), taken(1, (1, 3)), multiplied((2, 3), (3, 4)), divided((1, 2), -3)]
-[(3, 2), (-3, 1), (1, 2), (2, 3), (1, 2), (-1, 6)]
->>> [sum_of([(1, 2), (1, 3), (1, 6)]), sum_of([]), mixed(0, (3, 2), (1, 3)), mixed((1, 2), 2, 2), sign_of((-4, 8)), sign_of(0)]
-[(1, 1), (0, 1), (1, 2), (7, 2), -1, 0]
->>> divided(1, (0, 5))
-raises Misfit('other')
->>> added(1, (1, 0))
-raises BadNumber('other')
-"""
+def text_of(title):
+    return (FOLDER / f"{title}.txt").read_text("utf-8")
 
 
 def all_names():
     names = {}
-    for module in (errors, checks, papers, fractions):
+    for title in ("errors", *TITLES):
+        module = importlib.import_module(f"mapflow.{title}")
         names.update({name: value for name, value in vars(module).items() if not name.startswith("_")})
     return names
 
 
 class ExamplesTest(unittest.TestCase):
     def test_examples_hold(self):
-        for title, text in (("checks", CHECKS), ("papers", PAPERS), ("fractions", FRACTIONS)):
+        names = all_names()
+        for title in TITLES:
             with self.subTest(title):
-                self.assertEqual(failures_of(text, all_names()), [])
+                self.assertEqual(failures_of(text_of(title), names), [])
 
     def test_all_examples_are_read(self):
-        self.assertEqual([len(rows_of(text)) for text in (CHECKS, PAPERS, FRACTIONS)], [2, 2, 4])
+        self.assertEqual({title: len(rows_of(text_of(title))) for title in TITLES}, TITLES)
+        self.assertEqual(sorted(path.stem for path in FOLDER.iterdir()), sorted(TITLES))
+
+    @unittest.skipUnless(DOCUMENT.is_file(), "the document is not at hand")
+    def test_examples_stand_as_in_the_document(self):
+        parts = re.split(r"^## mapflow/(\w+)\.py$", DOCUMENT.read_text("utf-8"), flags=re.M)
+        for title, told in zip(parts[1::2], parts[2::2]):
+            if title in TITLES:
+                self.assertEqual(re.findall(r"^```\n(.*?)^```$", told, flags=re.S | re.M), [text_of(title)])
 
 
 class RunnerTest(unittest.TestCase):

@@ -20,6 +20,11 @@ BUILTINS = set(
     " Exception ValueError TypeError KeyError IndexError LookupError ZeroDivisionError ArithmeticError OverflowError"
     " RuntimeError NotImplementedError AttributeError StopIteration NotImplemented".split()
 )
+METHODS = set(
+    "append clear copy count endswith extend find get index insert isalnum isalpha isdigit islower isspace isupper items join"
+    " keys ljust lower lstrip partition pop remove replace reverse rfind rjust rpartition rsplit rstrip setdefault split"
+    " splitlines startswith strip update upper values zfill bit_length removeprefix removesuffix isascii".split()
+)
 
 
 def source_files():
@@ -122,6 +127,105 @@ class WordsTest(unittest.TestCase):
             for node in tree.body:
                 if isinstance(node, (ast.FunctionDef, ast.ClassDef)):
                     self.assertEqual(node.decorator_list, [], f"{path}: {node.name}")
+
+
+def parents_of(tree):
+    return {child: node for node in ast.walk(tree) for child in ast.iter_child_nodes(node)}
+
+
+def own_methods():
+    found = set()
+    for _, tree in trees():
+        for node in ast.walk(tree):
+            if isinstance(node, ast.ClassDef):
+                found.update(row.name for row in node.body if isinstance(row, ast.FunctionDef))
+    return found
+
+
+def is_call_of(node, *names):
+    return isinstance(node, ast.Call) and isinstance(node.func, ast.Name) and node.func.id in names
+
+
+class FineRulesTest(unittest.TestCase):
+    def test_no_generator_expression(self):
+        for path, tree in trees():
+            for node in ast.walk(tree):
+                self.assertNotIsInstance(node, (ast.GeneratorExp, ast.Lambda, ast.Global, ast.With), path)
+
+    def test_only_listed_methods(self):
+        own = own_methods()
+        for path, tree in trees():
+            for node in ast.walk(tree):
+                if isinstance(node, ast.Call) and isinstance(node.func, ast.Attribute):
+                    self.assertIn(node.func.attr, METHODS | own, path)
+                    if node.func.attr in METHODS:
+                        self.assertEqual(node.keywords, [], path)
+
+    def test_sets_stand_in_sorted_len_or_a_comparison(self):
+        for path, tree in trees():
+            above = parents_of(tree)
+            for node in ast.walk(tree):
+                if isinstance(node, (ast.Set, ast.SetComp)) or is_call_of(node, "set"):
+                    around = above[node]
+                    while isinstance(around, ast.BinOp):
+                        around = above[around]
+                    fits = is_call_of(around, "sorted", "len") or isinstance(around, ast.Compare)
+                    self.assertTrue(fits, f"{path}: {node.lineno}")
+
+    def test_errors_that_are_caught(self):
+        errors = {node.name for node in ast.walk(ast.parse((PACKAGE / "errors.py").read_text("utf-8")))
+                  if isinstance(node, ast.ClassDef)}
+        for path, tree in trees():
+            for node in ast.walk(tree):
+                if isinstance(node, ast.ExceptHandler):
+                    self.assertIn(node.type.id, errors | {"KeyError", "ZeroDivisionError"}, path)
+                if isinstance(node, ast.Raise):
+                    self.assertIn(node.exc.func.id, errors, path)
+                    self.assertEqual(node.exc.keywords, [], path)
+
+    def test_no_name_has_two_meanings(self):
+        builtins = set(vars(__import__("builtins")))
+        for path, tree in trees():
+            taken = builtins | {alias.name for node in imports_of(tree) for alias in node.names}
+            taken |= {node.name for node in tree.body if isinstance(node, (ast.FunctionDef, ast.ClassDef))}
+            for node in ast.walk(tree):
+                if isinstance(node, ast.arg):
+                    self.assertNotIn(node.arg, taken, path)
+                if isinstance(node, ast.Name) and isinstance(node.ctx, (ast.Store, ast.Del)):
+                    self.assertNotIn(node.id, taken, path)
+
+    def test_underscore_is_never_read(self):
+        for path, tree in trees():
+            for node in ast.walk(tree):
+                if isinstance(node, ast.Name) and isinstance(node.ctx, ast.Load):
+                    self.assertFalse(node.id.startswith("_"), path)
+
+    def test_stars_stand_before_names_and_lists(self):
+        for path, tree in trees():
+            for node in ast.walk(tree):
+                if isinstance(node, ast.Call):
+                    for value in node.args:
+                        if isinstance(value, ast.Starred):
+                            self.assertIsInstance(value.value, (ast.Name, ast.Attribute, ast.List, ast.Tuple), path)
+
+    def test_no_sign_of_a_remainder_in_a_string(self):
+        for path, tree in trees():
+            for node in ast.walk(tree):
+                if isinstance(node, ast.Constant) and isinstance(node.value, str):
+                    self.assertNotIn("%", node.value, path)
+
+    def test_inner_comprehensions_have_names_of_their_own(self):
+        kinds = (ast.ListComp, ast.DictComp, ast.SetComp)
+        for path, tree in trees():
+            for node in ast.walk(tree):
+                if isinstance(node, kinds):
+                    outer = self.names_of(node)
+                    for below in ast.walk(node):
+                        if below is not node and isinstance(below, kinds):
+                            self.assertFalse((outer & self.names_of(below)) - {"_"}, f"{path}: {node.lineno}")
+
+    def names_of(self, node):
+        return {name.id for loop in node.generators for name in ast.walk(loop.target) if isinstance(name, ast.Name)}
 
 
 if __name__ == "__main__":
