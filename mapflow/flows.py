@@ -85,7 +85,8 @@ def walk_at(drawings, moment):
     up, down = fraction_of(moment)
     # The last moment is the end of the last flow, not the beginning of another one.
     begin = min(up // down, len(drawings) - 2)
-    return flow_at(drawings[begin], drawings[begin + 1], taken(moment, begin))
+    one, other = drawings[begin], drawings[begin + 1]
+    return rest_between(weights_of(one), weights_of(other), taken(moment, begin), corners_of(one))
 
 
 class Flows(Paper):

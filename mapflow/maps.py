@@ -49,13 +49,13 @@ def followers_of(lands):
 
 def ring_along(follower):
     """The dots of a dict one behind another, in one round or one fan; None if they do not hang together so."""
-    ends = sorted(set(follower) - set(list(follower.values())))
-    if not follower or len(ends) > 1:
+    if not follower:
         return None
+    ends = sorted(set(follower) - set(list(follower.values())))
     ring = [ends[0] if ends else min(follower)]
     while ring[-1] in follower and follower[ring[-1]] != ring[0]:
         ring.append(follower[ring[-1]])
-    # A fan has one dot more than lands, a round as many.
+    # A fan has one dot more than lands, a round as many; with several ones some are not in this ring.
     if len(ring) != len(follower) + len(ends):
         return None
     return tuple(ring)

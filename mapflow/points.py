@@ -22,15 +22,10 @@ def bends_of(ring):
     return [k for k in range(len(ring)) if turn_of(ahead[k], ring[k], behind[k]) <= 0]
 
 
-def points_up(one, two):
-    """Whether the way from one point to another one points up; a level one does so if it points to the right."""
-    return two[1] > one[1] or (two[1] == one[1] and two[0] > one[0])
-
-
 def laps_of(ring):
     """How often one turns round in a ring of points, if one turns left at each."""
-    ups = [points_up(one, two) for one, two in zip(ring, [*ring[1:], ring[0]])]
-    # Just once a round one comes, by turning left, from pointing down to pointing up.
+    ups = [two[1] > one[1] for one, two in zip(ring, [*ring[1:], ring[0]])]
+    # Each turn is less than half a round: so there is a way up in each round, and one comes to pointing up just once.
     return len([k for k in range(len(ups)) if ups[k] and not ups[k - 1]])
 
 

@@ -217,7 +217,8 @@ class SameTest(unittest.TestCase, OrderMixin):
         wrong = {"one": [(value, BadMap("one")) for value in NO_MAPS],
                  "other": [(value, BadMap("other")) for value in NO_MAPS]}
         self.check_order(judged_same, {"one": SQUARE, "other": SQUARE}, wrong)
-        self.check_order(shows_same, {"one": SQUARE, "other": SQUARE, "value": Same()}, wrong)
+        for paper in (Same(), Unlike((0, 1, 4)), None, 5):
+            self.check_order(shows_same, {"one": SQUARE, "other": SQUARE, "value": paper}, wrong)
 
     def test_parameters(self):
         for name, wanted in (

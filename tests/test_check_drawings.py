@@ -91,9 +91,10 @@ class ShowsTest(unittest.TestCase, OrderMixin):
         self.assertIs(shows_placing(BENT, Other(2)), False)
 
     def test_errors(self):
-        self.check_order(shows_placing, {"placing": LEAN, "value": Sound()}, {
-            "placing": [(value, BadPlacing("placing")) for value in NO_PLACINGS],
-        })
+        for paper in (Sound(), Bent(0), Wound(2), Fallen((0, 1, 4)), None, 5):
+            self.check_order(shows_placing, {"placing": LEAN, "value": paper}, {
+                "placing": [(value, BadPlacing("placing")) for value in NO_PLACINGS],
+            })
 
     def test_parameters(self):
         self.assertEqual(list(inspect.signature(shows_placing).parameters), ["placing", "value"])

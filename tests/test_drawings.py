@@ -285,6 +285,14 @@ class CrossingTest(unittest.TestCase):
             self.assertEqual(crossing_of(Placing(chart, places)), wanted)
             self.assertEqual(crossing(Placing(chart, places)), wanted)
 
+    def test_apart_on_one_line(self):
+        chart = Map([(0, 1, 4), (1, 5, 4), (1, 2, 5), (2, 3, 5), (3, 4, 5), (3, 0, 4)])
+        level = Placing(chart, [(0, 0), (3, -3), (6, 0), (3, 3), (2, 0), (4, 0)])
+        for six in ((1, 0, 0, 0, 1, 0), (0, -1, 0, 1, 0, 0), (0, 1, 0, -1, 0, 0), (-1, 0, 0, 0, -1, 0), (1, 1, 0, 0, 1, 0)):
+            self.assertEqual(judged_placing(spread(level, six)), Sound())
+            self.assertIsNone(crossing_of(spread(level, six)))
+            self.assertIsNone(crossing(spread(level, six)))
+
     def test_two_ties_without_a_common_dot_at_one_place(self):
         chart = Map([(0, 1, 2), (0, 2, 3), (0, 3, 4), (0, 4, 5)])
         placing = Placing(chart, [(0, 0), (4, 0), (4, 4), (0, 4), (-4, 0), (4, 0)])
@@ -309,6 +317,8 @@ class InsideTest(unittest.TestCase, OrderMixin):
                     found[wanted] += 1
                     self.assertIs(is_inside(placing, dot), wanted)
         self.assertGreater(min(found.values()), 10)
+        small = [(0, 0), (1, 0), (2, 1), (1, 2), (0, 1)]
+        self.assertIs(is_inside(Placing(fan_map(5), small + [(1, 1)]), 5), True)
         for place, wanted in (((1, 1), True), ((0, 1), False), ((4, 4), False), ((4, (7, 2)), False), (((7, 2), (7, 2)), True)):
             self.assertIs(is_inside(moved(LEAN, 4, place), dot=4), wanted)
 

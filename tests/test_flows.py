@@ -177,6 +177,9 @@ class WalkTest(unittest.TestCase, OrderMixin):
         self.check_order(walk_at, {"drawings": [ONE, OTHER, ONE], "moment": 2}, wrong, late)
         self.assertRaisesWith(BadNumber("moment"), walk_at, [ONE, OTHER], (3, 2))
         self.assertRaisesWith(BadNumber("moment"), walk_at, [ONE] * 12, 12)
+        for moment in (2, (11, 10), -1, True):
+            self.assertRaisesWith(BadNumber("moment"), walk_at, [ONE, FAR], moment)
+            self.assertRaisesWith(BadNumber("moment"), walk_at, CROWD, moment)
 
 
 class PairTest(unittest.TestCase, OrderMixin):
@@ -254,7 +257,8 @@ class PairTest(unittest.TestCase, OrderMixin):
                 ({}, {"other": FAR}, {"other": NO_DRAWINGS[0]}, {"other": CALM})]
         late.extend([({"other": other}, Misfit("other")) for other in NO_DRAWINGS])
         self.check_order(judged_pair, {"one": ONE, "other": OTHER}, wrong, late)
-        self.check_order(shows_pair, {"one": ONE, "other": OTHER, "value": Flows()}, wrong, late)
+        for paper in (Flows(), Otherwise(2), Unlike((0, 1, 3)), None, 5):
+            self.check_order(shows_pair, {"one": ONE, "other": OTHER, "value": paper}, wrong, late)
 
     def test_one_land(self):
         one, other = [Placing(Map([(0, 1, 2)]), frame) for frame in (CORNER, CORNER[1:] + CORNER[:1])]

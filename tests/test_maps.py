@@ -145,6 +145,18 @@ class MadeTest(unittest.TestCase, OrderMixin):
         for k in range(14):
             self.assertNone(torus()[:k] + torus()[k + 1:])
 
+    def test_no_pieces_at_one_dot_that_the_numbers_do_not_show(self):
+        # Two handles, and a land at one of their dots: dots, less ties as the rounds would have them, and lands are 1.
+        names = {0: 0, 1: 3, 3: 1, 2: 7, 4: 8, 5: 9, 6: 10}
+        both = [land for land in torus() if land != (0, 1, 3)]
+        both.extend([tuple(names[dot] for dot in land) for land in torus() if land != (0, 1, 3)])
+        self.assertEqual(len({way for land in both for way in ways(land)}), 78)
+        for dot in range(11):
+            lands = both + [(dot, 11, 12)]
+            self.assertFalse(is_a_map(lands))
+            self.assertNone(lands)
+        self.assertNone(both)
+
     def test_a_band_turned_round(self):
         self.assertNone([(0, 1, 2), (1, 3, 2), (2, 3, 4), (3, 0, 4), (4, 0, 1)])
 
