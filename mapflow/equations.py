@@ -3,11 +3,12 @@
 from mapflow.fractions import reduced
 
 
-def solved(rows):
-    """The answers of equations; a row has a number for each unknown one, then its right sides.
+def above_down(rows):
+    """The pair of the determinant of equations, and what stands above it in the answers of each unknown one.
 
-    All are integers. The first k rows have, with their first k numbers, a determinant above 0, for each k. An answer
-    is a list of fractions, one for each right side.
+    A row has a number for each unknown one, then its right sides; all are integers. The first k rows have, with their
+    first k numbers, a determinant above 0, for each k. There is a list of integers for each unknown one, one for each
+    right side: divided by the determinant they are the answers.
     """
     table = [list(row) for row in rows]
     last = 1
@@ -19,4 +20,10 @@ def solved(rows):
                 # Each number is a determinant, so it is divided without a rest: fractions would have to be reduced.
                 table[i] = [(pivot * number - row[k] * above) // last for number, above in zip(row, head)]
         last = pivot
-    return [[reduced(side, last) for side in row[len(table):]] for row in table]
+    return (last, [row[len(table):] for row in table])
+
+
+def solved(rows):
+    """The answers of such equations: for each unknown one a list of fractions, one for each right side."""
+    down, above = above_down(rows)
+    return [[reduced(number, down) for number in answers] for answers in above]

@@ -38,11 +38,16 @@ def want_drawings(one, other):
         raise Misfit("other")
 
 
-def want_flow(one, other):
-    """Wants that one and other, which are placings, are drawings between which there is a flow that can be told."""
+def want_alike(one, other):
+    """Wants that one and other, which are placings, are drawings of one map in one frame."""
     want_drawings(one, other)
     if not are_framed_alike(one, other):
         raise Misfit("other")
+
+
+def want_flow(one, other):
+    """Wants that one and other, which are placings, are drawings between which there is a flow that can be told."""
+    want_alike(one, other)
     want_solvable(one.chart)
 
 

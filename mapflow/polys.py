@@ -3,6 +3,7 @@
 from mapflow.checks import is_fraction, is_list, is_place
 from mapflow.errors import BadNumber, BadPoly, Misfit, TooMany
 from mapflow.fractions import added, divided, fraction_of, multiplied, over_one_down, reduced, taken
+from mapflow.wholes import times_whole
 
 MOST_NUMBERS = 80
 MOST_POINTS = 40
@@ -16,9 +17,14 @@ def trimmed(numbers):
     return tuple(numbers[:length])
 
 
+def is_poly(value):
+    """Whether value is a list of fractions, no more than a polynomial can have."""
+    return is_list(value) and len(value) <= MOST_NUMBERS and all([is_fraction(number) for number in value])
+
+
 def read_poly(value, part):
     """The polynomial that value tells; an error names part if it tells none."""
-    if not is_list(value) or len(value) > MOST_NUMBERS or not all([is_fraction(number) for number in value]):
+    if not is_poly(value):
         raise BadPoly(part)
     return trimmed([fraction_of(number) for number in value])
 
@@ -49,25 +55,14 @@ def poly_sum(one, other):
     return trimmed(total)
 
 
-def times(first, second):
-    """The product of two polynomials without 0s at their ends, however long it is."""
-    if not first or not second:
-        return ()
-    (left, down), (right, below) = over_one_down(first), over_one_down(second)
-    product = [0 for _ in range(len(first) + len(second) - 1)]
-    for k, number in enumerate(left):
-        for i, more in enumerate(right):
-            product[k + i] += number * more
-    return tuple([reduced(up, down * below) for up in product])
-
-
 def poly_times(one, other):
     """One times other."""
-    first, second = read_poly(one, "one"), read_poly(other, "other")
+    (first, down), (second, below) = over_one_down(read_poly(one, "one")), over_one_down(read_poly(other, "other"))
     # The last numbers of both are not 0, so neither is that of the product.
-    if first and second and len(first) + len(second) - 1 > MOST_NUMBERS:
+    product = times_whole(first, second)
+    if len(product) > MOST_NUMBERS:
         raise TooMany("numbers", MOST_NUMBERS)
-    return times(first, second)
+    return tuple([reduced(up, down * below) for up in product])
 
 
 def parted(first, second):

@@ -60,7 +60,8 @@ def even_weights(chart):
 def equation_of(weights, k, corners):
     """The equation of inner dot k: it, less its inner neighbours by their weights, is the sum of those of the frame.
 
-    It has two right sides, for x and for y; corners tells the place of each dot of the frame.
+    It has two right sides, for x and for y; corners tells the place of each dot of the frame. It is told as a pair: its
+    integers, and by which one all of them are to be divided.
     """
     inner = weights.chart.inner
     row = [(0, 1) for _ in inner]
@@ -73,16 +74,22 @@ def equation_of(weights, k, corners):
             upward.append(multiplied(weight, y))
         else:
             row[inner.index(dot)] = taken(0, weight)
-    ups, _ = over_one_down([*row, sum_of(across), sum_of(upward)])
-    return ups
+    return over_one_down([*row, sum_of(across), sum_of(upward)])
+
+
+def equations_of(weights, corners):
+    """The equations of all inner dots, as pairs; corners is a dict of the place of each dot of the frame.
+
+    With all but the first k inner dots held there is just one rest, too, however far one weakens the weights between
+    them: so no determinant of theirs is 0, and all are above 0, as without such weights.
+    """
+    return [equation_of(weights, k, corners) for k in range(len(weights.chart.inner))]
 
 
 def rest_within(weights, corners):
     """The rest of weights; corners is a dict of the place of each dot of the frame, which is convex."""
     chart = weights.chart
-    # With all but the first k inner dots held there is just one rest, too, however far one weakens the weights between
-    # them: so no determinant of theirs is 0, and all are above 0, as without such weights.
-    answers = solved([equation_of(weights, k, corners) for k in range(len(chart.inner))])
+    answers = solved([row for row, _ in equations_of(weights, corners)])
     places = dict(zip(chart.inner, answers))
     return Placing(chart, [corners[dot] if dot in corners else places[dot] for dot in range(chart.dots)])
 
