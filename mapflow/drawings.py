@@ -5,7 +5,7 @@ from mapflow.errors import BadNumber, BadPlace, BadPlacing, BadText, Misfit
 from mapflow.fractions import added, fraction_of, multiplied, sign_of, sum_of, taken
 from mapflow.maps import Map, read_lands, ties_of, want_dot, want_land, want_map
 from mapflow.papers import Denial, Paper
-from mapflow.points import bends_of, is_convex, laps_of, lines_meet, lines_overlap, points_of, turn_of
+from mapflow.points import bends_of, is_convex, laps_of, lines_meet, lines_overlap, points_of, turn_of, ways_around
 from mapflow.texts import fraction_at, items_of, want_item
 
 
@@ -171,7 +171,7 @@ def is_inside(placing, dot):
     if dot not in placing.chart.inner:
         raise Misfit("dot")
     *ring, point = points_of([placing.places[other] for other in (*placing.chart.frame, dot)])
-    return all([turn_of(one, two, point) > 0 for one, two in zip(ring, [*ring[1:], ring[0]])])
+    return all([turn_of(one, two, point) > 0 for one, two in ways_around(ring)])
 
 
 def spread(placing, six):

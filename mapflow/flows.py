@@ -75,17 +75,27 @@ def film_of(one, other, many):
     return tuple([rest_between(first, last, (step, many), corners) for step in range(many + 1)])
 
 
-def walk_at(drawings, moment):
-    """The placing of the walk through some drawings at a moment."""
-    if not is_list(drawings) or not is_within(len(drawings), 2, MOST_WALKED):
+def want_some(drawings, least, most):
+    """Wants a list of so many placings for drawings."""
+    if not is_list(drawings) or not is_within(len(drawings), least, most):
         raise BadPlacing("drawings")
     for drawing in drawings:
         want_placing(drawing, "drawings")
+
+
+def want_framed_alike(drawings, first, part):
+    """Wants that each one of these placings is a drawing of the map of the first one, in its frame."""
+    for drawing in drawings:
+        if not is_drawing(drawing) or not are_framed_alike(first, drawing):
+            raise Misfit(part)
+
+
+def walk_at(drawings, moment):
+    """The placing of the walk through some drawings at a moment."""
+    want_some(drawings, 2, MOST_WALKED)
     if not is_fraction_to(moment, len(drawings) - 1):
         raise BadNumber("moment")
-    for drawing in drawings:
-        if not is_drawing(drawing) or not are_framed_alike(drawings[0], drawing):
-            raise Misfit("drawings")
+    want_framed_alike(drawings, drawings[0], "drawings")
     want_solvable(drawings[0].chart)
     up, down = fraction_of(moment)
     # The last moment is the end of the last flow, not the beginning of another one.

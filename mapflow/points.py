@@ -16,6 +16,11 @@ def turn_of(one, two, three):
     return (two[0] - one[0]) * (three[1] - one[1]) - (three[0] - one[0]) * (two[1] - one[1])
 
 
+def ways_around(ring):
+    """The ways from each point of a ring to the next one, from the last one to the first."""
+    return list(zip(ring, [*ring[1:], ring[0]]))
+
+
 def bends_of(ring):
     """The indexes in a ring of points of those at which one does not turn left."""
     ahead, behind = [ring[-1], *ring[:-1]], [*ring[1:], ring[0]]
@@ -24,7 +29,7 @@ def bends_of(ring):
 
 def laps_of(ring):
     """How often one turns round in a ring of points, if one turns left at each."""
-    ups = [two[1] > one[1] for one, two in zip(ring, [*ring[1:], ring[0]])]
+    ups = [two[1] > one[1] for one, two in ways_around(ring)]
     # Each turn is less than half a round: so there is a way up in each round, and one comes to pointing up just once.
     return len([k for k in range(len(ups)) if ups[k] and not ups[k - 1]])
 
@@ -59,3 +64,19 @@ def lines_overlap(corner, one, two):
         return False
     # Both lead the same way if they do so across or upward; a line of no length leads nowhere.
     return any([(one[k] - corner[k]) * (two[k] - corner[k]) > 0 for k in (0, 1)])
+
+
+def line_along(one, two):
+    """The line through two points: (a, b, c) such that a x + b y + c is the turn from one by two to (x, y)."""
+    a, b = one[1] - two[1], two[0] - one[0]
+    return (a, b, -a * one[0] - b * one[1])
+
+
+def meeting_of(line, other):
+    """The point of two lines, as (x, y, times): both are taken times an integer above 0; None if they go alike."""
+    (a, b, c), (d, e, f) = line, other
+    times = a * e - b * d
+    if times == 0:
+        return None
+    sign = 1 if times > 0 else -1
+    return (sign * (b * f - c * e), sign * (c * d - a * f), abs(times))

@@ -10,7 +10,8 @@ from tests.doc_examples import failures_of, rows_of
 # In the order of the document: an example uses names as earlier ones made them last.
 TITLES = {
     "checks": 2, "papers": 2, "fractions": 4, "maps": 8, "builds": 6, "drawings": 12, "check_drawings": 2, "weights": 12,
-    "tellback": 11, "flows": 14, "polys": 7, "zeros": 7, "moments": 7, "check_moments": 2, "straights": 7,
+    "tellback": 11, "flows": 14, "polys": 7, "zeros": 7, "moments": 7, "check_moments": 2, "straights": 7, "rings": 9, "spots": 9,
+    "drags": 7, "pictures": 6,
 }
 FOLDER = Path(__file__).resolve().parent / "examples"
 DOCUMENT = FOLDER.parent.parent.parent / "shared" / "DOC.md"
