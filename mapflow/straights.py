@@ -52,7 +52,7 @@ def areas_along(one, other):
 
 
 def are_upright(areas, high):
-    """Whether all areas are above 0 from 0 to high, a reduced fraction above 0, both counted."""
+    """Whether all areas are above 0 from 0 to high, a reduced fraction, both counted."""
     return all([is_above_on(areas[land], (0, 1), high) for land in areas])
 
 
@@ -73,18 +73,15 @@ def judged_straight(one, other, width):
     return Clear() if fallen is None else Falls(fallen, low, high)
 
 
-def is_fall(one, areas, value):
-    """Whether a Falls is right: one is the drawing from which the move goes, areas are those along it."""
-    land = land_of(one.chart, value.land)
+def is_fall(chart, areas, value):
+    """Whether a Falls is right; areas has that of each land of the map along the move."""
+    land = land_of(chart, value.land)
     if land is None or not is_fraction_to(value.low, 1) or not is_fraction_to(value.high, 1):
         return False
     low, high = fraction_of(value.low), fraction_of(value.high)
     if sign_of(taken(high, low)) <= 0:
         return False
-    # The move goes from a drawing: so at 0 all lands are upright.
-    if sign_of(low) > 0 and not are_upright(areas, low):
-        return False
-    return zeros_within(areas[land], low, high) > 0
+    return are_upright(areas, low) and zeros_within(areas[land], low, high) > 0
 
 
 def shows_straight(one, other, value):
@@ -95,5 +92,5 @@ def shows_straight(one, other, value):
     if type(value) is Clear:
         return are_upright(areas, (1, 1))
     if type(value) is Falls:
-        return is_fall(one, areas, value)
+        return is_fall(one.chart, areas, value)
     return False

@@ -12,10 +12,10 @@ MOST_STRETCHES = 40
 
 
 def row_of(numbers):
-    """The row of rests of a polynomial with integers that none above 1 divides: tuples (numbers, common, times).
+    """The row of rests of a polynomial with integers: tuples (numbers, common, times).
 
-    These numbers are such integers, too. Taken times common, divided by times, both above 0, they are those of the row
-    itself; behind the first two they are taken besides as often as those of the last but one.
+    These numbers are integers that none above 1 divides. Taken times common, divided by times, both above 0, they are
+    those of the row itself; behind the first two they are taken besides as often as those of the last but one.
     """
     row = []
     following, times = numbers, 1
@@ -41,10 +41,9 @@ def times_scale(number, scale):
 def rests_of(poly):
     """The row of rests of the polynomial."""
     ups, down = over_one_down(read_poly(poly, "poly"))
-    whole = content_of(ups)
     scales, rests = [], []
-    for k, (numbers, common, times) in enumerate(row_of([up // whole for up in ups])):
-        before = reduced(whole, down) if k < 2 else scales[k - 2]
+    for k, (numbers, common, times) in enumerate(row_of(ups)):
+        before = (1, down) if k < 2 else scales[k - 2]
         scales.append(multiplied(before, reduced(common, times)))
         rests.append(tuple([times_scale(number, scales[k]) for number in numbers]))
     return tuple(rests)
@@ -52,8 +51,7 @@ def rests_of(poly):
 
 def counting_row(numbers):
     """The row of rests of a polynomial with integers, not 0, each of them divided by the last one."""
-    whole = content_of(numbers)
-    row = [rest for rest, _, _ in row_of([number // whole for number in numbers])]
+    row = [rest for rest, _, _ in row_of(numbers)]
     return [quotient_whole(rest, row[-1]) for rest in row]
 
 

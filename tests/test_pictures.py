@@ -211,6 +211,9 @@ class FilmTest(unittest.TestCase, OrderMixin):
             "wide": [(value, BadNumber("wide")) for value in NO_WIDE],
             "tall": [(value, BadNumber("tall")) for value in NO_TALL],
         }, misfits({"wide": 80, "tall": 60}))
+        for many in (0, 41, -1):
+            self.assertRaisesWith(BadNumber("many"), film_pictures, ONE, CALM, many, 81, 61)
+            self.assertRaisesWith(BadNumber("many"), film_pictures, *CROWD, many, 1, 1)
 
     def test_parameters(self):
         for name, wanted in (

@@ -173,6 +173,15 @@ class ShrunkTest(unittest.TestCase, OrderMixin):
         }, misfit_lists({"centre": THIRD, "moment": 0}) + misfit_centres({"moment": 0}))
 
 
+    def test_numbers_are_told_ahead_of_what_does_not_fit(self):
+        for share in (2, (-1, 9), [10 ** 9 + 1, 10 ** 9]):
+            self.assertRaisesWith(BadNumber("share"), shrunk_at, [ONE, FAR], THIRD, share, 9)
+            self.assertRaisesWith(BadNumber("share"), shrunk_at, CROWD, FAR, share, 0)
+        self.assertRaisesWith(BadNumber("moment"), shrunk_at, [ONE, FAR], FAR, 1, (5, 2))
+        self.assertRaisesWith(BadNumber("many"), films_of, [ONE, FAR], FAR, 13, 0)
+        self.assertRaisesWith(BadNumber("few"), films_of, CROWD, FAR, 12, 13)
+
+
 class FilmsTest(unittest.TestCase, OrderMixin):
     def test_number_and_order(self):
         for seed, drawings in enumerate(some_rings()):

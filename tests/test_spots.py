@@ -237,6 +237,9 @@ class TrailTest(unittest.TestCase, OrderMixin):
             "many": [(value, BadNumber("many")) for value in (*[wrong for wrong in NO_COUNTS if wrong != 13], 41)],
         }, late)
         self.assertRaisesWith(TooMany("inner", 20), trail_of, *CROWD, (999, 999), 1)
+        for many in (0, 41, -1):
+            self.assertRaisesWith(BadNumber("many"), trail_of, ONE, CALM, (99, 99), many)
+            self.assertRaisesWith(BadPlace("place"), trail_of, ONE, CALM, (99, None), many)
 
     def test_what_is_passed_stays(self):
         place, shares, land = [[2, 1], [2, 2]], [[1, 2], [1, 4], [2, 8]], [1, 4, 0]

@@ -210,6 +210,16 @@ class ShowsTest(unittest.TestCase, OrderMixin):
         self.assertIs(shows_straight(*found, Falls((0, 4, 3), (1, 2), 1)), False)
         self.assertEqual(judged_straight(*found, (1, 8)), Falls((0, 4, 3), (3, 8), (1, 2)))
 
+    def test_a_late_fall(self):
+        # The area of (0, 4, 3) is a third of (6 - 8 t) (7 - 8 t): it is below 0 from 3/4 to 7/8 only.
+        found = [Placing(TWO, [*WIDE_CORNER, (12, 4), ((13, 2), 1)]), Placing(TWO, [*WIDE_CORNER, (4, 12), ((31, 12), (91, 12))])]
+        third = Fraction(1, 3)
+        self.assertEqual(quadratics(*found)[(0, 4, 3)], (42 * third, -104 * third, 64 * third))
+        self.assertEqual(judged_straight(*found, (1, 8)), Falls((0, 4, 3), (5, 8), (3, 4)))
+        self.assertEqual(judged_straight(*found, (1, 16)), Falls((0, 4, 3), (11, 16), (3, 4)))
+        self.assertIs(shows_straight(*found, Falls((0, 4, 3), (5, 8), (3, 4))), True)
+        self.assertIs(shows_straight(*found, Falls((0, 4, 3), (3, 4), (7, 8))), False)
+
     def test_other_values(self):
         right = judged_straight(BEGIN, END, (1, 9))
 
