@@ -14,7 +14,7 @@ def cut(numbers):
 
 
 def wholes_of(polys):
-    """The pair of polynomials with reduced fractions, all told by integers, and of the integer that divides them."""
+    """The pair (told, down): polynomials with reduced fractions are those told by integers, divided by down."""
     ups, down = over_one_down([number for poly in polys for number in poly])
     told = []
     begin = 0

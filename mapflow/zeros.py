@@ -98,7 +98,10 @@ def is_plainly_above(numbers):
 
 
 def is_above_on(numbers, low, high):
-    """Whether all values of a polynomial with integers are above 0 from low to high, reduced fractions, and there."""
+    """Whether all values of a polynomial with integers are above 0 from low to high, both counted.
+
+    Low and high are reduced fractions, low not above high.
+    """
     if not numbers:
         return False
     waiting = [as_unit(numbers, low, high)]
