@@ -20,8 +20,10 @@ def want_ring(drawings):
 
 def want_centred(drawings, centre):
     """Wants that these placings are drawings that make a ring, and the centre is one of their map in their frame."""
-    want_ring(drawings)
+    want_framed_alike(drawings, drawings[0], "drawings")
+    # Too many inner dots are told behind all that does not fit: so the centre comes ahead of them.
     want_framed_alike([centre], drawings[0], "centre")
+    want_solvable(drawings[0].chart)
 
 
 def want_moment(drawings, moment):

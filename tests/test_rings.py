@@ -6,7 +6,7 @@ import unittest
 from fractions import Fraction
 
 from mapflow import rings
-from mapflow.builds import fan_map
+from mapflow.builds import fan_map, renamed
 from mapflow.drawings import Placing, Sound, judged_placing, spread
 from mapflow.errors import BadNumber, BadPlacing, Misfit, TooMany
 from mapflow.flows import flow_at
@@ -15,7 +15,7 @@ from mapflow.rings import films_of, middle_of, ring_at, shrunk_at
 from mapflow.tellback import weights_of
 from tests.samples import NO_FRACTIONS, NOTHINGS, OrderMixin, ears, number, pair, point, some_drawing, some_map, some_maps
 from tests.test_drawings import NO_PLACINGS
-from tests.test_flows import CALM, CORNER, CROWD, FAR, ONE, OTHER, OTHERS, WIDE
+from tests.test_flows import CALM, CORNER, CROWD, FAR, MIDST, ONE, OTHER, OTHERS, WIDE
 from tests.test_tellback import NO_DRAWINGS, NO_SHARES
 
 THIRD = Placing(fan_map(3), [*CORNER, ((3, 2), (3, 4))])
@@ -24,6 +24,16 @@ NO_LISTS_OF_PLACINGS = [value for value in NO_PLACINGS if value != [ONE] and not
     [], (), [ONE] * 9, (ONE,) * 12, [ONE, None], (None, ONE), [ONE, OTHER, fan_map(3)], [ONE, [OTHER]], {0: ONE}, ONE, [ONE.places],
     [FAR, ONE, 3], [None] * 20, [str(ONE)],
 ]
+# Drawings of one map in one frame, with too many inner dots; and placings that do not fit beside them.
+CROWDS = ([CROWD[0]], CROWD, [*CROWD, CROWD[0]])
+FLAT_CROWD = Placing(CROWD[0].chart, [*CROWD[0].places[:-1], CROWD[0].places[0]])
+WIDE_CROWD = spread(CROWD[1], (2, 0, 0, 0, 1, 0))
+# A drawing in the same frame, but of another map: the last two dots, both inner ones, have each other's number.
+*EARLIER, ONE_BUT_LAST, LAST = range(CROWD[0].chart.dots)
+SWAPPED = [*EARLIER, LAST, ONE_BUT_LAST]
+SWAPPED_CROWD = Placing(renamed(CROWD[0].chart, SWAPPED), [CROWD[0].places[dot] for dot in SWAPPED])
+CROWDS_APART = ([*CROWD, FAR], [CROWD[0], SWAPPED_CROWD], [CROWD[0], WIDE_CROWD], [FLAT_CROWD], [*CROWD, FLAT_CROWD])
+NO_CROWD_CENTRES = (*NO_DRAWINGS[:2], ONE, MIDST, SWAPPED_CROWD, FLAT_CROWD, WIDE_CROWD)
 NO_COUNTS = [value for value in NOTHINGS if value != 7] + [0, 13, -1, 10 ** 20, (1, 1), [2], (2, 1), 2.0, "2", True]
 
 
@@ -112,7 +122,7 @@ class RingTest(unittest.TestCase, OrderMixin):
         beyond = [(value, BadNumber("moment")) for value in (*NO_FRACTIONS, -1, (-1, 9), 3, (5, 2), (2 * 10 ** 9 + 1, 10 ** 9), 10 ** 20)]
         self.check_order(ring_at, {"drawings": [ONE, OTHER], "moment": (3, 2)}, {
             "drawings": [(value, BadPlacing("drawings")) for value in NO_LISTS_OF_PLACINGS], "moment": beyond,
-        }, misfit_lists({"moment": 0}))
+        }, misfit_lists({"moment": 0}) + crowds({"moment": 0}))
         self.assertRaisesWith(BadNumber("moment"), ring_at, [ONE], (11, 10))
         self.assertRaisesWith(BadNumber("moment"), ring_at, [ONE] * 8, (81, 10))
         self.assertRaisesWith(BadNumber("moment"), ring_at, [CROWD[0], FAR], 3)
@@ -124,24 +134,31 @@ def misfit_lists(more):
     for wrong in (*NO_DRAWINGS, *OTHERS, FAR, WIDE, CROWD[0]):
         late.extend([({"drawings": some, **more}, Misfit("drawings")) for some in ([ONE, wrong], [wrong, ONE], [ONE, ONE, wrong, ONE])])
     late.extend([({"drawings": [wrong], **more}, Misfit("drawings")) for wrong in NO_DRAWINGS])
-    late.append(({"drawings": [*CROWD, FAR], **more}, Misfit("drawings")))
-    for crowded in ({}, {"centre": CROWD[1]} if "centre" in more else {}):
-        late.append(({"drawings": [CROWD[0]], **more, **crowded}, TooMany("inner", 20)))
-        late.append(({"drawings": [*CROWD, CROWD[0]], **more, **crowded}, TooMany("inner", 20)))
+    late.extend([({"drawings": some, **more}, Misfit("drawings")) for some in CROWDS_APART])
     return late
 
 
+def crowds(more):
+    """Lists of drawings with too many inner dots, each with the error; more are other arguments, which fit."""
+    return [({"drawings": some, **more}, TooMany("inner", 20)) for some in CROWDS]
+
+
 def misfit_centres(more):
+    """Centres that do not fit, each with the error; more are other arguments."""
     found = [({"centre": centre, **more}, Misfit("centre")) for centre in (*NO_DRAWINGS, *OTHERS, FAR, WIDE, CROWD[0])]
     shifted = spread(ONE, (1, 0, (1, 10 ** 9), 0, 1, 0))
     found.append(({"centre": shifted, **more}, Misfit("centre")))
     found.append(({"drawings": [shifted], **more}, Misfit("centre")))
     # What is wrong with the drawings is told ahead of what is wrong with the centre.
-    found.append(({"drawings": CROWD, "centre": ONE, **more}, TooMany("inner", 20)))
-    found.append(({"drawings": CROWD, "centre": NO_DRAWINGS[0], **more}, TooMany("inner", 20)))
     for wrong in (NO_DRAWINGS[0], FAR, CROWD[0]):
         found.append(({"drawings": [ONE, wrong], "centre": wrong, **more}, Misfit("drawings")))
         found.append(({"drawings": [ONE, wrong], "centre": NO_DRAWINGS[1], **more}, Misfit("drawings")))
+    # What does not fit is told ahead of too many inner dots: the drawings, then the centre.
+    for centre in NO_CROWD_CENTRES:
+        found.extend([({"drawings": some, "centre": centre, **more}, Misfit("drawings")) for some in CROWDS_APART])
+        found.extend([({"drawings": some, "centre": centre, **more}, Misfit("centre")) for some in CROWDS])
+    for centre in CROWD:
+        found.extend(crowds({"centre": centre, **more}))
     return found
 
 
@@ -249,7 +266,7 @@ class MiddleTest(unittest.TestCase, OrderMixin):
     def test_errors(self):
         self.check_order(middle_of, {"drawings": [ONE, OTHER]}, {
             "drawings": [(value, BadPlacing("drawings")) for value in NO_LISTS_OF_PLACINGS],
-        }, misfit_lists({}))
+        }, misfit_lists({}) + crowds({}))
 
     def test_what_is_passed_stays(self):
         drawings = [ONE, OTHER]
